@@ -1,0 +1,13 @@
+"""The numbers that calls are refused with."""
+
+OTHER_PROGRAMS = -1
+NO_PROGRAM = -2
+NOT_THERE = -3
+NOT_WITHIN = -4
+WRONG_SECRET = -5
+NO_LONGER_GOOD = -13
+ALIKE = -17
+OUT_OF_RANGE = -22
+FULL = -28
+OVER = -62
+WRONG_PROOF = -71

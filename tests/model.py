@@ -47,7 +47,7 @@ class Model:
         return 0
 
     def redeem(self, program, secret, code, v, a, r):
-        kept = next((one for one in getattr(self, "codes", ()) if one["name"] == code), None)
+        kept = next((one for one in self.codes if one["name"] == code), None)
         refusals = (
             (-22, lambda: len(v) > 128),
             (-2, lambda: program not in range(len(self.programs))),

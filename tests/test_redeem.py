@@ -101,7 +101,7 @@ class Redeem(unittest.TestCase):
     def test_a_secret_is_not_a_token(self):
         self.assertEqual(last(*AGREED, redeem(SECRET, CODE, SECRET, OTHER_SECRET, v=V)), 0)
 
-    def test_128_codes_are_all_redeemed(self):
+    def test_100_of_128_codes_are_redeemed(self):
         agreed = [agree(bytes_16(1000 + k)) for k in range(128)]
         redeemed = [redeem(SECRET, bytes_16(1000 + k), bytes_16(3000 + k), bytes_16(5000 + k)) for k in range(100)]
         self.assertEqual(told(begin(), program(SECRET), *agreed, *redeemed), [0] * 230)

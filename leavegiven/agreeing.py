@@ -1,17 +1,16 @@
 """The calls that bring leave about: agree, redeem."""
 
-from leavegiven.book import Code, Grant, Token, is_over, is_taken, is_within
+from leavegiven.book import (
+    LAST_PERSON, MOST_CODES, Code, Token, add_grant, has_room, is_fresh_pair, is_over, is_taken, is_within,
+    kill_grant, secret_refusal,
+)
 from leavegiven.refusals import (
     ALIKE, FULL, NO_LONGER_GOOD, NO_PROGRAM, NOT_THERE, NOT_WITHIN,
-    OTHER_PROGRAMS, OUT_OF_RANGE, OVER, WRONG_PROOF, WRONG_SECRET,
+    OTHER_PROGRAMS, OUT_OF_RANGE, OVER, WRONG_PROOF,
 )
 from leavegiven.sha256 import digest
 
-LAST_PERSON = 63
 LONGEST_V = 128
-MOST_CODES = 128
-MOST_GRANTS = 128
-MOST_TOKENS = 512
 
 
 def agree(book, person, program, scopes, challenge, code):
@@ -27,29 +26,6 @@ def agree(book, person, program, scopes, challenge, code):
         return FULL
     book.codes[code] = Code(person, program, scopes, challenge, book.time + book.code_life)
     return 0
-
-
-def secret_refusal(book, program, secret):
-    """0 if the secret is the program's."""
-    if program >= len(book.programs):
-        return NO_PROGRAM
-    if book.programs[program].secret != secret:
-        return WRONG_SECRET
-    return 0
-
-
-def is_fresh_pair(book, a, r):
-    return a != r and not is_taken(book, a) and not is_taken(book, r)
-
-
-def add_pair(book, grant, scopes, a, r):
-    book.tokens[a] = Token(True, grant, scopes, book.time + book.life)
-    book.tokens[r] = Token(False, grant, scopes, book.time + book.renew_life)
-
-
-def kill_grant(book, number):
-    grant = book.grants[number]
-    grant.dead = True
 
 
 def code_refusal(book, program, found, v):
@@ -80,9 +56,9 @@ def redeem(book, program, secret, code, v, a, r):
         return refusal
     if not is_fresh_pair(book, a, r):
         return ALIKE
-    if len(book.grants) >= MOST_GRANTS or len(book.tokens) + 2 > MOST_TOKENS:
+    if not has_room(book, 1, 2):
         return FULL
-    found.grant = len(book.grants)
-    book.grants.append(Grant(found.person, program, found.scopes))
-    add_pair(book, found.grant, found.scopes, a, r)
+    found.grant = add_grant(book, found.person, program, found.scopes, None)
+    book.tokens[a] = Token(True, found.grant, found.scopes, book.time + book.life)
+    book.tokens[r] = Token(False, found.grant, found.scopes, book.time + book.renew_life)
     return 0

@@ -89,6 +89,38 @@ class Language(unittest.TestCase):
                 self.assertIsNone(one.asname, name)
                 self.assertRegex(made, r"(?m)^(def |class )?%s\b" % one.name, name)
 
+    def test_no_two_files_draw_from_one_another(self):
+        drawn = {path.stem: set() for path in files()}
+        for name, node in nodes(ast.ImportFrom):
+            drawn[name[:-3]].add(node.module.split(".")[1])
+        while drawn:
+            free = [name for name in drawn if not drawn[name] & set(drawn)]
+            self.assertTrue(free, drawn)
+            for name in free:
+                drawn.pop(name)
+
+    def test_no_local_is_called_like_a_class_or_an_import(self):
+        for path in files():
+            tree = ast.parse(path.read_text())
+            top = {node.name for node in tree.body if isinstance(node, ast.ClassDef)}
+            for node in tree.body:
+                if isinstance(node, ast.ImportFrom):
+                    top.update(one.name for one in node.names)
+            inner = [one for node in tree.body if not isinstance(node, ast.Assign) for one in ast.walk(node)]
+            given = {node.arg for node in inner if isinstance(node, ast.arg)}
+            given.update(node.id for node in inner if isinstance(node, ast.Name) and isinstance(node.ctx, ast.Store))
+            self.assertEqual(top & given, set(), path.name)
+
+    def test_no_name_is_a_method_and_a_value(self):
+        methods = set()
+        for name, node in nodes(ast.ClassDef):
+            methods.update(one.name for one in node.body if isinstance(one, ast.FunctionDef))
+        for name, node in nodes(ast.Attribute):
+            if isinstance(node.ctx, ast.Store):
+                self.assertNotIn(node.attr, methods, (name, node.lineno))
+                self.assertIsInstance(node.value, ast.Name, (name, node.lineno))
+                self.assertNotIn(node.attr, METHODS, (name, node.lineno))
+
     def test_names(self):
         for name, node in nodes(ast.Name):
             self.assertRegex(node.id, r"^[A-Za-z]", name)

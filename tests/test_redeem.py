@@ -6,17 +6,12 @@ from leavegiven.agreeing import agree as agree_in, redeem as redeem_in
 from leavegiven.book import Book, Grant, Token
 from leavegiven.setting import add_program, begin as begin_in, set_now
 from tests.lines import (
-    agree, begin, bytes_16, last, now, program, redeem, sha256, told,
+    agree, begin, bytes_16, check, hand, last, now, program, redeem, sha256, told, withdraw,
+)
+from tests.stage import (
+    A, A_2, B, B_2, B_3, CODE, CODE_2, OTHER_SECRET, R, R_2, SECRET, after, with_grants, with_tokens,
 )
 
-SECRET = bytes_16(1)
-OTHER_SECRET = bytes_16(2)
-CODE = bytes_16(10)
-CODE_2 = bytes_16(11)
-A = bytes_16(20)
-R = bytes_16(21)
-A_2 = bytes_16(22)
-R_2 = bytes_16(23)
 V = [5, 6, 7]
 START = (begin(), program(SECRET), program(OTHER_SECRET))
 AGREED = START + (agree(CODE, v=V), agree(CODE_2, v=V))
@@ -179,7 +174,7 @@ def book_with_a_code(grants, tokens):
     set_now(book, 40)
     agree_in(book, 3, 0, 5, tuple(sha256(V)), tuple(CODE))
     for k in range(grants):
-        book.grants.append(Grant(0, 0, 1))
+        book.grants.append(Grant(0, 0, 1, None))
     for k in range(tokens):
         book.tokens[tuple(bytes_16(9000 + k))] = Token(True, 0, 1, 50)
     return book
@@ -189,8 +184,69 @@ def redeem_code(book, secret=SECRET, v=V, a=A, r=R):
     return redeem_in(book, 0, tuple(secret), tuple(CODE), tuple(v), tuple(a), tuple(r))
 
 
+class NoRoom(unittest.TestCase):
+    """The lines with so many tokens are longer than the interface allows; what they bring about isn't."""
+
+    def test_128_grants(self):
+        for count, answer in ((127, 0), (128, -28)):
+            line = with_grants(count) + (agree(CODE_2, v=V),)
+            self.assertEqual(after(line, redeem(SECRET, CODE_2, A_2, R_2, v=V)), [answer])
+
+    def test_128_grants_of_which_some_are_dead(self):
+        line = with_grants(128) + (withdraw(5, 1), agree(CODE_2, v=V))
+        self.assertEqual(after(line, redeem(SECRET, CODE_2, A_2, R_2, v=V)), [-28])
+
+    def test_128_codes_redeemed(self):
+        line = START
+        for k in range(128):
+            code = bytes_16(1000 + k)
+            line = line + (agree(code), redeem(SECRET, code, bytes_16(2000 + k), bytes_16(3000 + k)))
+        self.assertEqual(after(line, agree(CODE), check(bytes_16(2127))), [-28, (1, 0, 0, 1)])
+
+    def test_510_tokens_and_more(self):
+        for count, answer in ((509, 0), (510, 0), (511, -28), (512, -28)):
+            line = with_tokens(count)[0] + (agree(CODE_2, v=V),)
+            self.assertEqual(after(line, redeem(SECRET, CODE_2, A_2, R_2, v=V)), [answer])
+
+    def test_28_comes_last_and_changes_nothing(self):
+        for line in (with_grants(128), with_tokens(511)[0]):
+            line = line + (agree(CODE_2, person=6, v=V),)
+            self.assertEqual(after(line, redeem(SECRET, CODE_2, A_2, R_2)), [-71])
+            self.assertEqual(after(line, redeem(SECRET, CODE_2, A_2, A_2, v=V)), [-17])
+            refused = redeem(SECRET, CODE_2, A_2, R_2, v=V)
+            later = (agree(A_2), agree(R_2), check(A), withdraw(6, 0), redeem(SECRET, CODE_2, A_2, R_2, v=V))
+            self.assertEqual(after(line, refused, refused, *later), [-28, -28] + after(line, *later))
+
+
+class Twice(unittest.TestCase):
+    """All that came of a code redeemed twice is over."""
+
+    def test_its_grant_and_what_came_of_it(self):
+        line = REDEEMED + (redeem(SECRET, CODE_2, A_2, R_2, v=V), hand(SECRET, A, B, to=1))
+        checks = (check(A), check(B), check(A_2))
+        self.assertEqual(after(line, *checks), [(1, 0, 0, 1), (1, 0, 1, 1), (1, 0, 0, 1)])
+        again = redeem(SECRET, CODE, B_2, B_3, v=V)
+        self.assertEqual(after(line, again, *checks), [-13, -13, -13, (1, 0, 0, 1)])
+        self.assertEqual(after(line, again, again, withdraw(0, 0), withdraw(0, 1)), [-13, -13, 1, 1])
+
+    def test_whatever_else_is_wrong(self):
+        line = (begin(code_life=5, life=10), program(SECRET), agree(CODE, v=V), redeem(SECRET, CODE, A, R, v=V))
+        for again in (redeem(SECRET, CODE, A, A), redeem(SECRET, CODE, A_2, R_2, v=[])):
+            for t in (0, 4, 5, 9):
+                self.assertEqual(after(line, now(t), again, check(A)), [0, -13, -13])
+
+    def test_what_is_refused_ahead_of_it_kills_nothing(self):
+        wrong = (
+            (redeem(SECRET, CODE, A_2, R_2, v=[1] * 129), -22), (redeem(SECRET, CODE, A_2, R_2, program=2, v=V), -2),
+            (redeem(OTHER_SECRET, CODE, A_2, R_2, v=V), -5), (redeem(SECRET, A, A_2, R_2, v=V), -3),
+            (redeem(OTHER_SECRET, CODE, A_2, R_2, program=1, v=V), -1),
+        )
+        for call, answer in wrong:
+            self.assertEqual(after(REDEEMED, call, check(A)), [answer, (1, 0, 0, 1)])
+
+
 class Kept(unittest.TestCase):
-    """What no call of these tells yet, looked up where it is kept."""
+    """The same, looked up where it is kept."""
 
     def test_the_grant_and_its_tokens(self):
         book = book_with_a_code(4, 0)
@@ -199,6 +255,7 @@ class Kept(unittest.TestCase):
         self.assertEqual(len(book.tokens), 2)
         grant = book.grants[4]
         self.assertEqual((grant.person, grant.program, grant.scopes, grant.dead), (3, 0, 5, False))
+        self.assertIsNone(grant.handed_from)
         use = book.tokens[tuple(A)]
         self.assertEqual((use.for_use, use.grant, use.scopes, use.ends), (True, 4, 5, 50))
         renewing = book.tokens[tuple(R)]
@@ -207,7 +264,7 @@ class Kept(unittest.TestCase):
     def test_a_second_time_kills_its_grant_alone(self):
         book = book_with_a_code(1, 0)
         redeem_code(book)
-        book.grants.append(Grant(3, 0, 5))
+        book.grants.append(Grant(3, 0, 5, None))
         self.assertEqual([grant.dead for grant in book.grants], [False, False, False])
         self.assertEqual(redeem_code(book), -13)
         self.assertEqual([grant.dead for grant in book.grants], [False, True, False])
